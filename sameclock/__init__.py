@@ -1,0 +1,1 @@
+"""Sameclock: a compiler whose code takes the same time for all secrets."""

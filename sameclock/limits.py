@@ -1,0 +1,7 @@
+"""Numbers that the document gives as limits."""
+
+GREATEST_WORD = 4294967295
+MOST_LENGTH = 64
+MOST_INPUTS = 8
+MOST_ROUNDS = 1000
+GREATEST_REGISTER = 100000

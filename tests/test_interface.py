@@ -1,0 +1,32 @@
+"""The names and arguments of the interface exist as they are written, in the files where they are listed."""
+
+import importlib
+import inspect
+import unittest
+
+FUNCTIONS = {
+    "tokens": ["tokens(text)"],
+    "parser": ["parse(text)", "parse_expr(text)"],
+    "printing": ["print_program(program)", "print_expr(expr)"],
+}
+VALUES = {"tokens": ["KEYWORDS"]}
+
+
+class TestInterface(unittest.TestCase):
+    def test_functions(self):
+        for name, listed in FUNCTIONS.items():
+            module = importlib.import_module("sameclock." + name)
+            for text in listed:
+                function = getattr(module, text.partition("(")[0])
+                self.assertEqual(function.__name__ + str(inspect.signature(function)), text)
+                self.assertEqual(function.__module__, "sameclock." + name)
+
+    def test_values(self):
+        for name, listed in VALUES.items():
+            module = importlib.import_module("sameclock." + name)
+            for value in listed:
+                self.assertIs(type(getattr(module, value)), tuple)
+
+
+if __name__ == "__main__":
+    unittest.main()
