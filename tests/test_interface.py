@@ -8,8 +8,13 @@ FUNCTIONS = {
     "tokens": ["tokens(text)"],
     "parser": ["parse(text)", "parse_expr(text)"],
     "printing": ["print_program(program)", "print_expr(expr)"],
+    "check": ["check(program)", "typed(text)", "label_of(program, labels, expr)"],
+    "meaning": ["meaning(typed, inputs, contents)", "called(typed, p, values, contents)"],
+    "ir": ["apply(sign, a, b)", "size_of(length)", "is_ir(thing)", "run_ir(program, inputs, contents, steps)"],
+    "ir_labels": ["public_registers(program, params)", "keeps_secrets(program, params)"],
+    "lower": ["lower(typed)"],
 }
-VALUES = {"tokens": ["KEYWORDS"]}
+VALUES = {"tokens": ["KEYWORDS"], "ir": ["SIGNS"]}
 
 
 class TestInterface(unittest.TestCase):

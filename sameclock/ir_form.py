@@ -1,0 +1,27 @@
+"""The form of the rows of the intermediate form (point 4.1)."""
+
+# What stands behind the word of a row: a register that is written or read, a word, a sign, an array or a block.
+FORMS = {
+    "const": ("write", "word"),
+    "copy": ("write", "read"),
+    "op": ("sign", "write", "read", "read"),
+    "select": ("write", "read", "read", "read"),
+    "load": ("write", "array", "read"),
+    "store": ("array", "read", "read"),
+    "out": ("read",),
+    "jump": ("block",),
+    "branch": ("read", "block", "block"),
+    "stop": ("read",),
+}
+ENDS = ("jump", "branch", "stop")
+
+
+def parts_like(row, kind):
+    """Returns the tuple of the parts of a row that are of this kind, in their order."""
+    form = FORMS[row[0]]
+    return tuple([part for part, like in zip(row[1:], form) if like == kind])
+
+
+def registers_of(row):
+    """Returns the tuple of the registers that a row names."""
+    return parts_like(row, "write") + parts_like(row, "read")
