@@ -14,7 +14,7 @@ def check(program):
         known.take(procedure)
     if len(main[1]) > MOST_INPUTS:
         raise WrongCount("main")
-    return (known.arrays, tuple(known.procedures), Body(known).procedure(main))
+    return (known.arrays, tuple(known.procedures), Scope(known).procedure(main))
 
 
 def typed(text):
@@ -58,11 +58,11 @@ class Known:
         name = procedure[0]
         if name in self.procedure_places:
             raise DoubleName(name)
-        body = Body(self)
-        self.procedures.append(body.procedure(procedure))
+        scope = Scope(self)
+        self.procedures.append(scope.procedure(procedure))
         # Only now: a procedure does not know itself.
         self.procedure_places[name] = len(self.quiet)
-        self.quiet.append(body.quiet)
+        self.quiet.append(scope.quiet)
 
     def array_place(self, name):
         """The index of the array of this name."""
@@ -77,7 +77,7 @@ class Known:
         return self.procedure_places[name]
 
 
-class Body:
+class Scope:
     """The variables of one procedure, or of main, while it is checked."""
 
     def __init__(self, known):

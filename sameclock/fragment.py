@@ -69,11 +69,10 @@ class Fragment:
     def place(self, other, base):
         """Writes what another fragment does, with the registers from base on."""
         behind = len(self.blocks) - 1
+        moved = [[_moved(row, base, behind) for row in rows] for rows in other.blocks]
         # The first block of a fragment is no target of its own rows, so it may stand behind those of this one.
-        for row in other.blocks[0]:
-            self.write(_moved(row, base, behind))
-        for rows in other.blocks[1:]:
-            self.blocks.append([_moved(row, base, behind) for row in rows])
+        self.blocks[self.now].extend(moved[0])
+        self.blocks.extend(moved[1:])
         if other.now > 0:
             self.now = other.now + behind
 

@@ -56,7 +56,7 @@ class Reader:
         if self.next_kind() != "end":
             self.refuse()
 
-    def program(self):
+    def whole_program(self):
         """The tree of a program."""
         arrays = []
         while self.next_word() in LABELS:
@@ -253,7 +253,7 @@ class Reader:
 
 def parse(text):
     """Returns the tree of a program."""
-    return Reader(text).program()
+    return Reader(text).whole_program()
 
 
 def parse_expr(text):

@@ -4,10 +4,12 @@ import itertools
 import unittest
 
 from sameclock.check import check, typed
+from sameclock.errors import ProgramError
 from sameclock.ir import is_ir, run_ir
 from sameclock.ir_labels import keeps_secrets
 from sameclock.lower import lower
 from sameclock.meaning import meaning
+from changed import changed_program
 from good import good_program, other_secrets, random_inputs
 from reference import traced, tree_meaning
 
@@ -266,21 +268,36 @@ class TestCalls(Case):
 
 
 class TestRandom(Case):
-    def test_random_programs(self):
+    def compare(self, number, tree, program):
+        """A lowered program against the meaning of its tree, and its trails for two choices of secrets."""
+        made = lower(program)
+        self.assertIs(is_ir(made), True)
+        self.assertIs(keeps_secrets(made, program[2][1]), True, number)
+        for more in range(2):
+            inputs, contents = random_inputs(tree, number * 11 + more)
+            found, trail, _ = traced(made, inputs, contents)
+            self.assertEqual(found, tree_meaning(tree, inputs, contents), number)
+            others = other_secrets(tree, inputs, contents, number * 11 + more)
+            again, other_trail, _ = traced(made, others[0], others[1])
+            self.assertEqual(again, tree_meaning(tree, others[0], others[1]), number)
+            self.assertEqual(other_trail, trail, number)
+
+    def test_good_programs(self):
         for number in range(250):
             tree = good_program(number)
-            program = check(tree)
-            made = lower(program)
-            self.assertIs(is_ir(made), True)
-            self.assertIs(keeps_secrets(made, program[2][1]), True)
-            for more in range(2):
-                inputs, contents = random_inputs(tree, number * 11 + more)
-                found, trail, _ = traced(made, inputs, contents)
-                self.assertEqual(found, tree_meaning(tree, inputs, contents), number)
-                others = other_secrets(tree, inputs, contents, number * 11 + more)
-                again, other_trail, _ = traced(made, others[0], others[1])
-                self.assertEqual(again, tree_meaning(tree, others[0], others[1]), number)
-                self.assertEqual(other_trail, trail, number)
+            self.compare(number, tree, check(tree))
+
+    def test_changed_programs(self):
+        taken = 0
+        for number in range(600):
+            tree = changed_program(number)
+            try:
+                program = check(tree)
+            except ProgramError:
+                continue
+            taken += 1
+            self.compare(number, tree, program)
+        self.assertGreater(taken, 100)
 
 
 if __name__ == "__main__":
