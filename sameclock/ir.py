@@ -1,5 +1,6 @@
 """The intermediate form: its signs, its form, and what it does (part 4, points 4.1 to 4.4)."""
 
+from sameclock.forms import is_label, is_number
 from sameclock.ir_form import ENDS, FORMS, registers_of
 from sameclock.limits import GREATEST_REGISTER, GREATEST_WORD, MOST_LENGTH
 
@@ -86,7 +87,7 @@ def is_ir(thing):
     arrays, params, blocks = thing
     if not isinstance(arrays, tuple) or not isinstance(blocks, tuple) or len(blocks) == 0:
         return False
-    if not _is_number(params, GREATEST_REGISTER + 1):
+    if not is_number(params, 0, GREATEST_REGISTER + 1):
         return False
     for array in arrays:
         if not _is_array(array):
@@ -97,17 +98,11 @@ def is_ir(thing):
     return True
 
 
-def _is_number(thing, most):
-    return isinstance(thing, int) and not isinstance(thing, bool) and 0 <= thing <= most
-
-
 def _is_array(thing):
     if not isinstance(thing, tuple) or len(thing) != 3:
         return False
     name, length, label = thing
-    if not isinstance(name, str) or not _is_number(length, MOST_LENGTH) or length == 0:
-        return False
-    return isinstance(label, str) and label in ("public", "secret")
+    return isinstance(name, str) and is_number(length, 1, MOST_LENGTH) and is_label(label)
 
 
 def _is_block(thing, arrays, blocks):
@@ -141,12 +136,12 @@ def _is_part(thing, kind, arrays, blocks):
     if kind == "sign":
         return isinstance(thing, str) and thing in SIGNS
     if kind == "word":
-        return _is_number(thing, GREATEST_WORD)
+        return is_number(thing, 0, GREATEST_WORD)
     if kind == "array":
-        return _is_number(thing, arrays - 1)
+        return is_number(thing, 0, arrays - 1)
     if kind == "block":
-        return _is_number(thing, blocks - 1)
-    return _is_number(thing, GREATEST_REGISTER)
+        return is_number(thing, 0, blocks - 1)
+    return is_number(thing, 0, GREATEST_REGISTER)
 
 
 def run_ir(program, inputs, contents, steps):

@@ -14,6 +14,8 @@ FORMS = {
     "stop": ("read",),
 }
 ENDS = ("jump", "branch", "stop")
+# Where the register stands that a row writes.
+WRITTEN = {"const": 1, "copy": 1, "op": 2, "select": 1, "load": 1}
 
 
 def parts_like(row, kind):
@@ -25,3 +27,9 @@ def parts_like(row, kind):
 def registers_of(row):
     """Returns the tuple of the registers that a row names."""
     return parts_like(row, "write") + parts_like(row, "read")
+
+
+def written(row):
+    """Returns the register that a row writes, or -1."""
+    at = WRITTEN.get(row[0], 0)
+    return row[at] if at > 0 else -1

@@ -13,6 +13,11 @@ FUNCTIONS = {
     "ir": ["apply(sign, a, b)", "size_of(length)", "is_ir(thing)", "run_ir(program, inputs, contents, steps)"],
     "ir_labels": ["public_registers(program, params)", "keeps_secrets(program, params)"],
     "lower": ["lower(typed)"],
+    "known": ["known_numbers(program)"],
+    "passes": ["fold(program)", "copies(program)", "common(program)", "dead(program)", "jumps(program)",
+               "optimise(program, names)", "needed_at(program)", "stand_for(program)"],
+    "code_form": ["is_code(thing)", "reads(row)", "writes(row)"],
+    "live": ["live_at(program)", "live_behind(program)"],
 }
 VALUES = {"tokens": ["KEYWORDS"], "ir": ["SIGNS"]}
 
