@@ -27,7 +27,7 @@ def is_code(thing):
     if not _are_regions(regions) or not isinstance(rows, tuple) or not 1 <= len(rows) <= MOST_ROWS:
         return False
     for row in rows:
-        if not _is_row(row, len(rows)):
+        if not is_row(row, len(rows)):
             return False
     return rows[-1][0] in ("jump", "stop")
 
@@ -48,7 +48,8 @@ def _are_regions(thing):
     return True
 
 
-def _is_row(thing, count):
+def is_row(thing, count):
+    """Returns True if any value is a row of code that has so many rows."""
     if not isinstance(thing, tuple) or len(thing) == 0:
         return False
     word = thing[0]

@@ -1,7 +1,7 @@
 """The intermediate form: its signs, its form, and what it does (part 4, points 4.1 to 4.4)."""
 
 from sameclock.forms import is_label, is_number
-from sameclock.ir_form import ENDS, FORMS, registers_of
+from sameclock.ir_form import ENDS, FORMS, register_count
 from sameclock.limits import GREATEST_REGISTER, GREATEST_WORD, MOST_LENGTH
 
 SIGNS = ("+", "-", "*", "&", "|", "^", "<<", ">>", "==", "<", "<=", "div", "mod")
@@ -166,7 +166,7 @@ class IrRun:
 
     def __init__(self, program, inputs, contents):
         self.arrays = program[0]
-        self.registers = [0] * _register_count(program)
+        self.registers = [0] * register_count(program)
         self.registers[:len(inputs)] = list(inputs)
         self.cells = []
         self.masks = []
@@ -206,12 +206,3 @@ class IrRun:
                 self.cells[row[1]][held[row[2]] & self.masks[row[1]]] = held[row[3]]
             else:
                 self.outs.append(held[row[1]])
-
-
-def _register_count(program):
-    count = program[1]
-    for block in program[2]:
-        for row in block:
-            for number in registers_of(row):
-                count = max(count, number + 1)
-    return count

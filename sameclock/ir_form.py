@@ -29,6 +29,21 @@ def registers_of(row):
     return parts_like(row, "write") + parts_like(row, "read")
 
 
+def named_registers(program):
+    """Returns the dict of True of the registers that a program has as parameters or names in its rows."""
+    named = {number: True for number in range(program[1])}
+    for block in program[2]:
+        for row in block:
+            for number in registers_of(row):
+                named[number] = True
+    return named
+
+
+def register_count(program):
+    """Returns how many registers there are up to the greatest one that a program names or has as a parameter."""
+    return max(list(named_registers(program)), default=-1) + 1
+
+
 def written(row):
     """Returns the register that a row writes, or -1."""
     at = WRITTEN.get(row[0], 0)

@@ -1,22 +1,17 @@
 """Which registers of the intermediate form are public (point 4.6)."""
 
-from sameclock.ir_form import parts_like, registers_of
+from sameclock.ir_form import named_registers, parts_like
 
 
 def public_registers(program, params):
     """Returns the ascending tuple of the public registers; params are the labels of the parameters."""
-    secret = _secret_registers(program, params)
-    named = {number: True for number in range(program[1])}
-    for block in program[2]:
-        for row in block:
-            for number in registers_of(row):
-                named[number] = True
-    return tuple([number for number in sorted(named) if number not in secret])
+    secret = secret_registers(program, params)
+    return tuple([number for number in sorted(named_registers(program)) if number not in secret])
 
 
 def keeps_secrets(program, params):
     """Returns True if a program keeps its secrets, otherwise False."""
-    secret = _secret_registers(program, params)
+    secret = secret_registers(program, params)
     for block in program[2]:
         for row in block:
             for number in _watched(row, program[0]):
@@ -39,8 +34,8 @@ def _watched(row, arrays):
     return ()
 
 
-def _secret_registers(program, params):
-    """The dict of the registers that are not public.
+def secret_registers(program, params):
+    """Returns the dict of True of the registers that are not public.
 
     The greatest set of public registers leaves the least set of others: those that get
     a secret from outside, and those that are made of them.

@@ -2,17 +2,12 @@
 
 from sameclock.flow import order_of, ways_of
 from sameclock.ir import apply
-from sameclock.ir_form import registers_of, written
+from sameclock.ir_form import named_registers, written
 
 
 def known_numbers(program):
     """Returns a list with, for each block, None or the dict of the numbers that are known at its beginning."""
-    named = {number: True for number in range(program[1])}
-    for block in program[2]:
-        for row in block:
-            for number in registers_of(row):
-                named[number] = True
-    return known_of(program, [named] * len(program[2]))
+    return known_of(program, [named_registers(program)] * len(program[2]))
 
 
 def known_of(program, asked):

@@ -18,6 +18,11 @@ FUNCTIONS = {
                "optimise(program, names)", "needed_at(program)", "stand_for(program)"],
     "code_form": ["is_code(thing)", "reads(row)", "writes(row)"],
     "live": ["live_at(program)", "live_behind(program)"],
+    "allocate": ["allocate(program, params)", "fits(program, params, allocation)"],
+    "emit": ["emit(program, params, allocation)", "regions_of(program, params, allocation)"],
+    "code_bytes": ["write_bytes(code)", "read_bytes(row)"],
+    "listing": ["write_listing(code)", "read_listing(text)"],
+    "papers": ["public_behind(code, r, member)", "ways(code, r)", "holds(code, paper)", "greatest_paper(code)"],
 }
 VALUES = {"tokens": ["KEYWORDS"], "ir": ["SIGNS"]}
 
