@@ -82,3 +82,24 @@ def random_state(program, number):
     chance = random.Random(number)
     word = lambda: chance.choice([0, 1, 2, 5, chance.randrange(2 ** 32)])
     return (tuple(word() for _ in range(program[1])), tuple(tuple(word() for _ in range(length)) for _, length, _ in program[0]))
+
+
+def random_copies(number):
+    """A program of copies, whose ways part and come together again, so that registers come from several."""
+    chance = random.Random(number)
+    count = chance.randrange(4, 8)
+
+    def rows(many):
+        made = []
+        for _ in range(many):
+            a, b = chance.sample(range(count), 2)
+            made.append(chance.choice([("copy", a, b)] * 6 + [("const", a, b), ("out", a)]))
+        return tuple(made)
+
+    blocks = []
+    for part in range(chance.randrange(1, 4)):
+        at = 4 * part
+        back = chance.choice([at + 3, at + 3, at, 0])
+        blocks += [rows(chance.randrange(3)) + (("branch", 0, at + 1, at + 2),), rows(chance.randrange(2, 6)) + (("jump", at + 3),),
+                   rows(chance.randrange(2, 6)) + (("jump", at + 3),), rows(chance.randrange(4)) + (("branch", 1, at + 4, (back, at + 4)[back == at + 3]),)]
+    return ((), 0, tuple(blocks) + (rows(2) + (("stop", 2),),))

@@ -4,7 +4,7 @@ import unittest
 
 from sameclock.ir import is_ir
 from sameclock.passes import copies, stand_for
-from flows import random_ir
+from flows import random_copies, random_ir
 from pass_reference import slow_copies, slow_stand_for
 
 ARRAYS = (("pub", 4, "public"), ("sec", 4, "secret"))
@@ -121,10 +121,16 @@ class TestStandFor(unittest.TestCase):
         self.assertEqual(found[2], {4: 5})
         self.stands(program, {}, {4: 5}, {4: 5})
 
+    def test_several_of_which_one_is_written(self):
+        start = ((("branch", 0, 1, 2),), (("copy", 4, 5), ("copy", 6, 4), ("copy", 7, 6), ("jump", 3)), (("copy", 5, 4), ("copy", 6, 5), ("copy", 7, 6), ("jump", 3)))
+        for row, wanted in ((("const", 4, 1), {6: 5, 7: 5}), (("const", 5, 1), {6: 4, 7: 4}), (("const", 6, 1), {7: 4}), (("copy", 4, 3), {4: 3, 6: 5, 7: 5}),
+                            (("copy", 5, 6), {5: 4, 6: 4, 7: 4}), (("out", 4), {6: 4, 7: 4})):
+            self.stands(made(*start, (row, ("jump", 4)), (("stop", 6),)), {}, {}, {}, {6: 4, 7: 4}, wanted)
+
     def test_drawn(self):
         for number in range(800):
-            program = random_ir(number)
-            self.assertEqual(stand_for(program), slow_stand_for(program), number)
+            for program in (random_ir(number), random_copies(number)):
+                self.assertEqual(stand_for(program), slow_stand_for(program), number)
 
 
 class TestCopies(unittest.TestCase):
@@ -189,15 +195,15 @@ class TestCopies(unittest.TestCase):
         self.assertEqual(program, again)
 
     def test_long_chain(self):
-        count = 800
+        count = 20000
         rows = tuple(("copy", k + 1, k) for k in range(2, count))
         self.assertEqual(copies(made(rows + (("jump", 1),), (("stop", count),)))[2],
                          (tuple(("copy", k + 1, 2) for k in range(2, count)) + (("jump", 1),), (("stop", 2),)))
 
     def test_drawn(self):
         for number in range(800):
-            program = random_ir(number)
-            self.assertEqual(copies(program), slow_copies(program), number)
+            for program in (random_ir(number), random_copies(number)):
+                self.assertEqual(copies(program), slow_copies(program), number)
 
 
 if __name__ == "__main__":
