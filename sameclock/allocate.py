@@ -14,9 +14,9 @@ from sameclock.live import live_first
 def allocate(program, params):
     """Returns an allocation that fits; params are the labels of the parameters."""
     secret = secret_registers(program, params)
-    places = [("register", 0)] * register_count(program)
     extents = extents_of(program)
-    public_numbers, secret_numbers = _numbers_by_label(_without_registers(extents, places), secret)
+    places, left = _in_registers(extents)
+    public_numbers, secret_numbers = _numbers_by_label(left, secret)
     mine = 0
     others = 0
     if max(_count(public_numbers), _count(secret_numbers)) > MOST_SLOTS:
@@ -24,16 +24,18 @@ def allocate(program, params):
         public_numbers, secret_numbers = _numbers_by_label(extents, secret)
         mine = max(0, _count(public_numbers) - MOST_SLOTS)
         others = MOST_PLACES - mine
-    _give(places, public_numbers, "public", 0, mine)
-    _give(places, secret_numbers, "secret", mine, others)
-    return tuple(places)
+    places.update(_places(public_numbers, "public", 0, mine))
+    places.update(_places(secret_numbers, "secret", mine, others))
+    # What has no extent is never held, so that any place is good.
+    return tuple([places.get(a, ("register", 0)) for a in range(register_count(program))])
 
 
-def _without_registers(extents, places):
-    """Gives registers of the machine as places; returns the ascending list of the extents that get none.
+def _in_registers(extents):
+    """The dict of the places of those that get registers of the machine, and the ascending list of the other extents.
 
     Where too many are held at a time, the one that is held the longest gets none.
     """
+    places = {}
     held = {}
     left = []
     for extent in extents:
@@ -46,7 +48,7 @@ def _without_registers(extents, places):
             left.append(held[k])
         held[k] = extent
         places[extent[2]] = ("register", k)
-    return sorted(left)
+    return (places, sorted(left))
 
 
 def _numbers_by_label(extents, secret):
@@ -76,10 +78,12 @@ def _count(numbers):
     return max(list(numbers.values()), default=-1) + 1
 
 
-def _give(places, numbers, label, first, many):
-    """Gives places by numbers: as many registers of the machine from the first one on, then slots."""
+def _places(numbers, label, first, many):
+    """The places for numbers: as many registers of the machine from the first one on, then slots."""
+    places = {}
     for a, number in numbers.items():
         places[a] = ("register", first + number) if number < many else (label, number - many)
+    return places
 
 
 def fits(program, params, allocation):

@@ -237,6 +237,16 @@ class TestAllocate(Case):
             rows += [("load", k, 1, 6000), ("store", 1, 6000, k)]
         self.allocated((ARRAYS, 0, (tuple(rows) + (("stop", 6000),),)), ())
 
+    def test_slots_are_used_again(self):
+        # In each round 100 registers are live at a time; all of them together are more than there are slots of a label.
+        for array in (0, 1):
+            rows = []
+            for turn in range(60):
+                rows += [("load", 100 * turn + k, array, 6000) for k in range(100)]
+                rows += [("store", array, 6000, 100 * turn + k) for k in range(100)]
+            allocation = self.allocated((ARRAYS, 0, (tuple(rows) + (("stop", 6000),),)), ())
+            self.assertLess(len(set(allocation)), 4096)
+
     def test_blocks_in_another_order(self):
         chance = random.Random(5)
         count = 5000

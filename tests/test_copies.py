@@ -121,6 +121,12 @@ class TestStandFor(unittest.TestCase):
         self.assertEqual(found[2], {4: 5})
         self.stands(program, {}, {4: 5}, {4: 5})
 
+    def test_several_and_one_between(self):
+        # 9 comes from 3, 4 and 5 on both ways; 3 comes from 4 on both, but of 4 and 5 none from the other one.
+        program = made((("branch", 0, 1, 2),), (("copy", 4, 5), ("copy", 3, 4), ("copy", 9, 3), ("jump", 3)),
+                       (("copy", 3, 4), ("copy", 5, 3), ("copy", 9, 5), ("jump", 3)), (("out", 9), ("const", 4, 1), ("out", 9), ("jump", 4)), (("stop", 9),))
+        self.stands(program, {}, {}, {}, {3: 4, 9: 4}, {9: 3})
+
     def test_several_of_which_one_is_written(self):
         start = ((("branch", 0, 1, 2),), (("copy", 4, 5), ("copy", 6, 4), ("copy", 7, 6), ("jump", 3)), (("copy", 5, 4), ("copy", 6, 5), ("copy", 7, 6), ("jump", 3)))
         for row, wanted in ((("const", 4, 1), {6: 5, 7: 5}), (("const", 5, 1), {6: 4, 7: 4}), (("const", 6, 1), {7: 4}), (("copy", 4, 3), {4: 3, 6: 5, 7: 5}),
