@@ -46,7 +46,7 @@ class Emitted:
 
     def __init__(self, program, regions, allocation):
         self.regions = regions
-        self.places = allocation
+        self.allocation = allocation
         self.cells = len(program[0])
         self.slots = {}
         for base, _, label in regions[self.cells + program[1]:]:
@@ -62,7 +62,7 @@ class Emitted:
 
     def read(self, a, spare):
         """The register of the machine that holds a, which is a spare one if the place of a is a slot."""
-        kind, number = self.places[a]
+        kind, number = self.allocation[a]
         if kind == "register":
             return number
         self.rows.append(("load", spare, ZERO, self.slots[kind] + number, 0))
@@ -70,12 +70,12 @@ class Emitted:
 
     def target(self, a):
         """The register of the machine in which a is made."""
-        kind, number = self.places[a]
+        kind, number = self.allocation[a]
         return number if kind == "register" else FIRST
 
     def keep(self, a):
         """Puts what has been made into the place of a."""
-        kind, number = self.places[a]
+        kind, number = self.allocation[a]
         if kind != "register":
             self.rows.append(("store", ZERO, self.slots[kind] + number, 0, FIRST))
 
@@ -117,9 +117,9 @@ class Emitted:
 
     def copying(self, x, a):
         """Writes a copy."""
-        if self.places[x] == self.places[a]:
+        if self.allocation[x] == self.allocation[a]:
             return
-        kind, number = self.places[x]
+        kind, number = self.allocation[x]
         if kind == "register":
             source = self.read(a, number)
             if source != number:

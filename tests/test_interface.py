@@ -23,6 +23,12 @@ FUNCTIONS = {
     "code_bytes": ["write_bytes(code)", "read_bytes(row)"],
     "listing": ["write_listing(code)", "read_listing(text)"],
     "papers": ["public_behind(code, r, member)", "ways(code, r)", "holds(code, paper)", "greatest_paper(code)"],
+    "judge": ["judge(code, paper)", "taken(code)"],
+    "settings": ["is_cache(thing)", "is_predictor(thing)", "is_settings(thing)"],
+}
+CLASSES = {
+    "cache": {"Cache": ["__init__(self, settings)", "line_of(self, address)", "touch(self, address)", "drop(self, address)", "places(self, number)"]},
+    "predict": {"Predictor": ["__init__(self, settings)", "guess(self, row)", "learn(self, row, taken)"]},
 }
 VALUES = {"tokens": ["KEYWORDS"], "ir": ["SIGNS"]}
 
@@ -35,6 +41,17 @@ class TestInterface(unittest.TestCase):
                 function = getattr(module, text.partition("(")[0])
                 self.assertEqual(function.__name__ + str(inspect.signature(function)), text)
                 self.assertEqual(function.__module__, "sameclock." + name)
+
+    def test_classes(self):
+        for name, classes in CLASSES.items():
+            module = importlib.import_module("sameclock." + name)
+            for word, listed in classes.items():
+                made = getattr(module, word)
+                self.assertEqual((made.__name__, made.__module__), (word, "sameclock." + name))
+                for text in listed:
+                    # Defined in the class itself.
+                    function = vars(made)[text.partition("(")[0]]
+                    self.assertEqual(function.__name__ + str(inspect.signature(function)), text)
 
     def test_values(self):
         for name, listed in VALUES.items():
