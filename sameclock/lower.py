@@ -33,6 +33,7 @@ class Body(Rounds):
         self.labels = procedure[2]
         self.typed = typed
         self.ready = ready
+        self.declared = {number: True for number in range(len(procedure[1]))}
         self.result = 0
         self.mask = None
         if masked:
@@ -72,11 +73,15 @@ class Body(Rounds):
             self.write(("out", self.expr(statement[1])))
 
     def set_variable(self, variable, value):
-        """Writes a set, which counts only where the mask says so."""
-        if self.mask is None:
+        """Writes a set, which counts only where the mask says so.
+
+        The first one in the text declares the variable. Where that does not count, nothing that reads it does either.
+        """
+        if self.mask is None or variable not in self.declared:
             self.write(("copy", variable, value))
         else:
             self.write(("select", variable, self.mask, value, variable))
+        self.declared[variable] = True
 
     def storing(self, statement):
         """Writes a store."""

@@ -25,6 +25,12 @@ FUNCTIONS = {
     "papers": ["public_behind(code, r, member)", "ways(code, r)", "holds(code, paper)", "greatest_paper(code)"],
     "judge": ["judge(code, paper)", "taken(code)"],
     "settings": ["is_cache(thing)", "is_predictor(thing)", "is_settings(thing)"],
+    "machine": ["cost_of(sign, a, b)", "run_machine(code, contents, settings, steps)"],
+    "plain": ["plain_run(code, contents, steps)"],
+    "watch": ["mixed(code, contents, others)", "view(trace, what)", "apart(first, second)", "groups(code, contents, choices, settings, what, steps)",
+              "learns_nothing(code, contents, choices, settings, steps)"],
+    "attacks": ["own_address(code, settings, way, number)", "prime_and_probe(code, settings, n)", "flush_and_reload(code, settings, region, n, m)"],
+    "run": ["compile_text(text, *, optimised=True)", "run_text(text, inputs, contents, settings, *, optimised=True)", "same_trace(text, first, second, settings)"],
 }
 CLASSES = {
     "cache": {"Cache": ["__init__(self, settings)", "line_of(self, address)", "touch(self, address)", "drop(self, address)", "places(self, number)"]},

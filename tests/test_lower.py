@@ -173,6 +173,19 @@ class TestSecretIfs(Case):
         self.same("main(secret s, secret t) { secret x = 1; if s { x = t; } if t { x = x + 1; s = 5; } else { x = x * 3; t = 6; }"
                   " return x * 100 + s * 10 + t; }", itertools.product([0, 1, 2, TOP], repeat=2), ())
 
+    def test_variables_that_are_declared_inside(self):
+        text = """main(secret s, secret t) {
+            for i to 4 max 5 {
+              if s & 1 { secret u = t + i; u = u * 2; if u < 9 { secret v = u; v = v + 1; t = t + v; } t = t ^ u; }
+              else { secret v = s; for j to 2 max 2 { secret w = v + j; v = w * 3; } t = t ^ v; secret u = v; sec[u] = t; }
+              s = s >> 1;
+            }
+            return t; }"""
+        self.same(HEAD + text, itertools.product((0, 1, 5, 10, TOP), (0, 3, TOP)))
+        text = """fn f(secret x) { secret y = x * 2; if y < 7 { secret z = y; y = z + sec[z]; } sec[y] = y; return y; }
+            main(secret s) { secret t = 5; if s < 3 { secret u = f(s) + f(2); t = u; } else { if s < 5 { secret u = f(1); sec[u] = t; } } return t; }"""
+        self.same(HEAD + text, [(n,) for n in (0, 1, 2, 3, 4, 5, TOP)])
+
     def test_condition_is_changed(self):
         self.same("main(secret s) { secret x = 0; if s { s = 0; x = x + 1; } else { s = 1; x = x + 2; } return x * 10 + s; }",
                   [(0,), (1,), (TOP,)], ())
