@@ -203,7 +203,9 @@ class TestSameTrace(unittest.TestCase):
 
     def test_the_optimised_code_is_run(self):
         # Without passes the division would take as long as its operand tells.
-        text = "main(public p) { public q = p div 1; return 0; }"
+        text = "main(public p) { public q = p div 1 + 1; return 0; }"
+        traces = [run_text(text, (p,), (), OTHERS[0], optimised=False)[3] for p in (1, TOP)]
+        self.assertNotEqual(traces[0], traces[1])
         self.assertIs(same_trace(text, ((1,), ()), ((TOP,), ()), OTHERS[0]), True)
 
 
